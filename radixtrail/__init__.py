@@ -1,0 +1,1 @@
+"""Radixtrail: names kept by common beginnings."""
