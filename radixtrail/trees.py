@@ -5,6 +5,7 @@ a branch is a pair (sign, tree), its sign empty where a name ends at the fork.
 """
 
 from radixtrail.errors import NotThere
+from radixtrail.forks import branches_behind, inner_of, placed, replaced
 from radixtrail.words import common, rest
 
 
@@ -17,7 +18,7 @@ def found(tree, name):
     if behind is None:
         return None
     if kind == "fork":
-        return found(_inner(held, behind[:1]), behind[1:])
+        return found(inner_of(held, behind[:1]), behind[1:])
     if behind == "":
         return held
     return None
@@ -25,19 +26,14 @@ def found(tree, name):
 
 def put(tree, name, number):
     """The tree with a name kept with a number, in the place of the one it had."""
-    leaf = ("leaf", name, number)
-    if tree is None:
-        return leaf
-    kind, text, held = tree
-    shared = common(text, name)
-    if kind == "fork" and shared == text:
-        behind = name[len(shared):]
-        sign = behind[:1]
-        inner = put(_inner(held, sign), behind[1:], number)
-        return ("fork", shared, _placed(held, (sign, inner)))
-    if text == name:
-        return leaf
-    return ("fork", shared, _placed((_branch(tree, shared),), _branch(leaf, shared)))
+    if tree is None or tree[:2] == ("leaf", name):
+        return ("leaf", name, number)
+    shared = common(tree[1], name)
+    branches = branches_behind(tree, shared)
+    behind = name[len(shared):]
+    sign = behind[:1]
+    inner = put(inner_of(branches, sign), behind[1:], number)
+    return ("fork", shared, placed(branches, (sign, inner)))
 
 
 def without(tree, name):
@@ -45,6 +41,16 @@ def without(tree, name):
     if found(tree, name) is None:
         raise NotThere(f"the name {name!r} is not kept")
     return _less(tree, name)
+
+
+def _less(tree, name):
+    """The tree without a name that it keeps."""
+    kind, text, held = tree
+    if kind == "leaf":
+        return None
+    behind = name[len(text):]
+    sign = behind[:1]
+    return replaced(tree, sign, _less(inner_of(held, sign), behind[1:]))
 
 
 def ahead(tree, beginning):
@@ -79,48 +85,3 @@ def knots(tree):
     for sign, inner in held:
         pairs.extend([(text + sign + behind, many) for behind, many in knots(inner)])
     return pairs
-
-
-def _less(tree, name):
-    """The tree without a name that it keeps."""
-    kind, text, held = tree
-    if kind == "leaf":
-        return None
-    behind = name[len(text):]
-    sign = behind[:1]
-    inner = _less(_inner(held, sign), behind[1:])
-    if inner is not None:
-        return ("fork", text, _placed(held, (sign, inner)))
-    return _knot(text, [branch for branch in held if branch[0] != sign])
-
-
-def _knot(shared, branches):
-    """The tree of a fork's branches, of which one alone may be left."""
-    if len(branches) > 1:
-        return ("fork", shared, tuple(branches))
-    # No fork has a single branch: what the last one keeps takes its place.
-    sign, inner = branches[0]
-    return ahead(inner, shared + sign)
-
-
-def _branch(tree, beginning):
-    """A tree as a branch behind a text with which all its names begin."""
-    kind, text, held = tree
-    behind = text[len(beginning):]
-    return (behind[:1], (kind, behind[1:], held))
-
-
-def _inner(branches, sign):
-    """The tree in the branch with a sign; None where there is no such branch."""
-    for own_sign, tree in branches:
-        if own_sign == sign:
-            return tree
-    return None
-
-
-def _placed(branches, branch):
-    """The branches with one more, in the place of the one with its sign, if any."""
-    sign = branch[0]
-    lower = [pair for pair in branches if pair[0] < sign]
-    higher = [pair for pair in branches if pair[0] > sign]
-    return tuple(lower + [branch] + higher)

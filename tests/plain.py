@@ -10,13 +10,17 @@ SIGNS = [chr(place) for place in range(32, 127) if place != 37]
 LARGEST = 10 ** 60 - 1
 
 
+def leaf(text, number):
+    return ("leaf", text, number)
+
+
 def tree_of(kept):
     """The one tree of the names of a dict, straight from [3] and [4]."""
     if not kept:
         return None
     if len(kept) == 1:
         ((name, number),) = kept.items()
-        return ("leaf", name, number)
+        return leaf(name, number)
     shared = commonprefix(list(kept))
     by_sign = {}
     for name, number in kept.items():

@@ -2,14 +2,10 @@
 
 import unittest
 
-from plain import LARGEST, SIGNS, chain, dicts, knots_of, many_names, orders, texts, tree_of
-from radixtrail import trees
-from radixtrail.errors import NotThere, TrailError
+from checks import Check
+from plain import LARGEST, SIGNS, chain, dicts, knots_of, leaf, many_names, orders, texts, tree_of
+from radixtrail.errors import NotThere
 from radixtrail.trees import ahead, found, knots, names, put, without
-
-
-def leaf(text, number):
-    return ("leaf", text, number)
 
 
 def grown(pairs):
@@ -18,32 +14,6 @@ def grown(pairs):
     for name, number in pairs:
         tree = put(tree, name, number)
     return tree
-
-
-class TreeTest(unittest.TestCase):
-    def same(self, got, wanted):
-        """That two things are the same, kinds of values too (1 and True differ)."""
-        self.assertEqual(got, wanted)
-        self.assertEqual(repr(got), repr(wanted))
-
-    def refused(self, tree, name):
-        before = repr(tree)
-        for caught in (NotThere, TrailError, ValueError):
-            with self.assertRaises(caught) as held:
-                without(tree, name)
-            self.assertIs(type(held.exception), NotThere)
-        self.assertEqual(repr(tree), before)
-
-
-class Interface(unittest.TestCase):
-    def test_functions_are_defined_here_and_take_their_arguments_by_place(self):
-        for word, many in (("found", 2), ("put", 3), ("without", 2), ("ahead", 2),
-                           ("names", 1), ("knots", 1)):
-            with self.subTest(word=word):
-                function = getattr(trees, word)
-                self.assertEqual(function.__module__, "radixtrail.trees")
-                self.assertEqual(function.__code__.co_argcount, many)
-                self.assertIsNone(function.__defaults__)
 
 
 class PlainTree(unittest.TestCase):
@@ -64,7 +34,7 @@ class PlainTree(unittest.TestCase):
         self.assertEqual({0, 40}, {min(map(len, kept)), max(map(len, kept))})
 
 
-class Put(TreeTest):
+class Put(Check):
     def test_into_none(self):
         self.same(put(None, "ab", 1), leaf("ab", 1))
         self.same(put(None, "", 1), leaf("", 1))
@@ -176,7 +146,7 @@ class Put(TreeTest):
             self.assertEqual(repr(tree), before)
 
 
-class Found(TreeTest):
+class Found(Check):
     def test_of_none(self):
         self.assertIsNone(found(None, ""))
         self.assertIsNone(found(None, "a"))
@@ -225,7 +195,7 @@ class Found(TreeTest):
                 self.same(found(tree, name[:-1]), kept.get(name[:-1]))
 
 
-class Without(TreeTest):
+class Without(Check):
     def test_the_last_name(self):
         self.assertIsNone(without(leaf("ab", 1), "ab"))
         self.assertIsNone(without(leaf("", 0), ""))
@@ -271,7 +241,7 @@ class Without(TreeTest):
                            (fork, ["", "a", "ab", "abc", "abcd", "abcdef", "abff", "abg", "f"]),
                            (chained, ["", "a", "abcc", "abd", "ab ", "c"])):
             for name in some:
-                self.refused(tree, name)
+                self.refused(NotThere, without, tree, name)
 
     def test_each_name_of_each_small_tree(self):
         some = texts("ab", 2) + texts(" ~", 2)[1:]
@@ -288,7 +258,7 @@ class Without(TreeTest):
         for kept in dicts(some):
             for name in texts("ab", 3):
                 if name not in kept:
-                    self.refused(tree_of(kept), name)
+                    self.refused(NotThere, without, tree_of(kept), name)
 
     def test_large_trees_in_any_order(self):
         for kept in (many_names(100), many_names(130), chain(40)):
@@ -299,11 +269,11 @@ class Without(TreeTest):
                     tree = without(tree, name)
                     del left[name]
                     self.same(tree, tree_of(left))
-                    self.refused(tree, name)
+                    self.refused(NotThere, without, tree, name)
                 self.assertIsNone(tree)
 
 
-class Ahead(TreeTest):
+class Ahead(Check):
     def test_of_none(self):
         self.assertIsNone(ahead(None, ""))
         self.assertIsNone(ahead(None, "ab"))
@@ -338,7 +308,7 @@ class Ahead(TreeTest):
                 self.same(ahead(tree_of(kept), beginning), tree_of(longer))
 
 
-class Names(TreeTest):
+class Names(Check):
     def test_of_none(self):
         self.same(names(None), [])
 
@@ -373,7 +343,7 @@ class Names(TreeTest):
             self.same(tree, tree_of(kept))
 
 
-class Knots(TreeTest):
+class Knots(Check):
     def test_of_none(self):
         self.same(knots(None), [])
 

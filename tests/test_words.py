@@ -4,21 +4,7 @@ import unittest
 from os.path import commonprefix
 
 from plain import SIGNS, texts
-from radixtrail import words
-from radixtrail.words import MOST_SIGNS, common, is_name, rest
-
-
-class Interface(unittest.TestCase):
-    def test_functions_are_defined_here_and_take_their_arguments_by_place(self):
-        for function, many in ((is_name, 1), (common, 2), (rest, 2)):
-            with self.subTest(function=function.__name__):
-                self.assertEqual(function.__module__, "radixtrail.words")
-                self.assertEqual(function.__code__.co_argcount, many)
-                self.assertIsNone(function.__defaults__)
-
-    def test_most_signs(self):
-        self.assertIs(type(words.MOST_SIGNS), int)
-        self.assertEqual(MOST_SIGNS, 40)
+from radixtrail.words import common, is_name, rest
 
 
 class IsName(unittest.TestCase):
